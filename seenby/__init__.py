@@ -1,0 +1,1 @@
+"""Seen only by who may: a sheet of cells whose steps can be taken back."""
