@@ -1,30 +1,43 @@
 """A sheet of cells, the steps done on it, and the calls asked of it."""
 
-# The calls, by their numbers in the list.
+# The calls but the last, from_, by their numbers in the list.
 BEGIN = 0
 DO = 1
 TAKE = 2
 ALL_OF = 3
+GIVE = 4
+READ = 5
+SEEN = 6
 
 # By call: how many whole numbers stand behind its number in the list.
-NUMBERS_BEHIND = (0, 7, 2, 2)
+NUMBERS_BEHIND = (0, 7, 2, 2, 2, 2, 1, 1)
 
 WRONG_NUMBERS = -22
 NO_ROOM = -28
 NO_SUCH_STEP = -2
 SOMEBODY_ELSES = -1
-TAKEN_BACK = -17
+IS_SO_ALREADY = -17
 HUNG_ON = -16
 OTHERS_HANG_ON = -13
+READS_OTHERWISE = -11
+MAY_NOT_SEE = -13
 
 HIGHEST_PERSON = 15
 HIGHEST_KIND = 5
 HIGHEST_CELL = 31
 HIGHEST_MASK = 65535
 MOST_STEPS = 256
+EVERYBODY = 65535
+BEYOND_NUMBERS = 4294967296
 
-# By kind (put, add, copy, sum, exchange, if nought): how many of a, b, c it
-# names, and whether it names v.
+# The kinds of steps but the last, if nought.
+PUT = 0
+ADD = 1
+COPY = 2
+SUM = 3
+EXCHANGE = 4
+
+# By kind: how many of a, b, c it names, and whether it names v.
 CELLS_NAMED = (1, 1, 2, 3, 2, 2)
 NAMES_V = (True, True, False, False, False, True)
 
@@ -95,6 +108,69 @@ def going_with(steps, n):
     return list(going)
 
 
+def hung_on(steps, n):
+    """Whether a step that's there hangs on step n, or would if step n were there."""
+    fed = steps[n].sets + steps[n].adds_to
+    for later in steps[n + 1:]:
+        if not later.there:
+            continue
+        if any([cell in fed for cell in later.reads]):
+            return True
+        fed = [cell for cell in fed if cell not in later.sets]
+    return False
+
+
+def coming_from(steps, cell):
+    """The numbers of the steps from which the cell's value comes, rising."""
+    found = {}
+    for n in feeding(steps, cell, len(steps)):
+        found[n] = True
+    # A step hangs on earlier ones alone, so one walk backward finds them all.
+    for n in range(len(steps) - 1, -1, -1):
+        if n in found:
+            for m in steps[n].hangs_on:
+                found[m] = True
+    return sorted(found)
+
+
+def who_may_see(steps, cell):
+    """Those who may see the cell, as bits."""
+    people = EVERYBODY
+    for n in coming_from(steps, cell):
+        people = people & steps[n].mask
+    return people
+
+
+def work(contents, step):
+    """Does the step on what's in the cells."""
+    a = step.cells[0]
+    b = step.cells[1]
+    c = step.cells[2]
+    if step.kind == PUT:
+        contents[a] = step.v
+    elif step.kind == ADD:
+        contents[a] = (contents[a] + step.v) % BEYOND_NUMBERS
+    elif step.kind == COPY:
+        contents[b] = contents[a]
+    elif step.kind == SUM:
+        contents[c] = (contents[a] + contents[b]) % BEYOND_NUMBERS
+    elif step.kind == EXCHANGE:
+        was_in_a = contents[a]
+        contents[a] = contents[b]
+        contents[b] = was_in_a
+    elif contents[a] == 0:
+        contents[b] = step.v
+
+
+def made_by(steps):
+    """What's in the cells when the steps that are there are done in their order, from noughts."""
+    contents = [0] * (HIGHEST_CELL + 1)
+    for step in steps:
+        if step.there:
+            work(contents, step)
+    return contents
+
+
 class Sheet:
     """The steps done since begin, those that were taken back among them."""
 
@@ -112,35 +188,35 @@ class Sheet:
         if place == MOST_STEPS:
             return NO_ROOM
         step = Step(who, kind, cells, v, mask)
-        # Kept from now on: no step that is taken back feeds what a step that
-        # stays reads, so what this one hangs on is the same while it is there.
+        # Kept from now on: no step that is taken back or given back feeds what a
+        # step that is there reads, so this one hangs on the same while it is there.
         step.hangs_on = feeding_any(self.steps, step.reads, place)
         self.steps.append(step)
         return place
 
-    def refusal(self, who, n):
-        """Why who can't take step n back, whatever hangs on it; 0 if nothing forbids it."""
+    def refusal(self, who, n, there):
+        """Why who can't make step n be there or not, whatever hangs on what; 0 if nothing forbids it."""
         if n >= len(self.steps):
             return NO_SUCH_STEP
         step = self.steps[n]
         if step.who != who:
             return SOMEBODY_ELSES
-        if not step.there:
-            return TAKEN_BACK
+        if step.there == there:
+            return IS_SO_ALREADY
         return 0
 
     def take(self, who, n):
-        refused = self.refusal(who, n)
+        refused = self.refusal(who, n, False)
         if refused != 0:
             return refused
-        if len(going_with(self.steps, n)) > 1:
+        if hung_on(self.steps, n):
             return HUNG_ON
         step = self.steps[n]
         step.there = False
         return 0
 
     def all_of(self, who, n):
-        refused = self.refusal(who, n)
+        refused = self.refusal(who, n, False)
         if refused != 0:
             return refused
         going = going_with(self.steps, n)
@@ -151,6 +227,37 @@ class Sheet:
             step.there = False
         return len(going)
 
+    def give(self, who, n):
+        refused = self.refusal(who, n, True)
+        if refused != 0:
+            return refused
+        step = self.steps[n]
+        if feeding_any(self.steps, step.reads, n) != step.hangs_on:
+            return READS_OTHERWISE
+        if hung_on(self.steps, n):
+            return HUNG_ON
+        step.there = True
+        return 0
+
+    def read(self, who, cell):
+        if who > HIGHEST_PERSON or cell > HIGHEST_CELL:
+            return [WRONG_NUMBERS]
+        people = who_may_see(self.steps, cell)
+        if (people >> who) % 2 == 0:
+            return [MAY_NOT_SEE]
+        return [0, made_by(self.steps)[cell]]
+
+    def seen(self, cell):
+        if cell > HIGHEST_CELL:
+            return [WRONG_NUMBERS]
+        return [0, who_may_see(self.steps, cell)]
+
+    def from_(self, cell):
+        if cell > HIGHEST_CELL:
+            return [WRONG_NUMBERS]
+        numbers = coming_from(self.steps, cell)
+        return [len(numbers)] + numbers
+
 
 def answer(sheet, call, numbers):
     """What the sheet answers to one call, as a list of whole numbers."""
@@ -160,7 +267,15 @@ def answer(sheet, call, numbers):
         return [sheet.do(numbers[0], numbers[1], numbers[2:5], numbers[5], numbers[6])]
     if call == TAKE:
         return [sheet.take(numbers[0], numbers[1])]
-    return [sheet.all_of(numbers[0], numbers[1])]
+    if call == ALL_OF:
+        return [sheet.all_of(numbers[0], numbers[1])]
+    if call == GIVE:
+        return [sheet.give(numbers[0], numbers[1])]
+    if call == READ:
+        return sheet.read(numbers[0], numbers[1])
+    if call == SEEN:
+        return sheet.seen(numbers[0])
+    return sheet.from_(numbers[0])
 
 
 def answers(calls):

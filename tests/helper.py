@@ -1,6 +1,6 @@
 """How the tests write calls, and how they take the answers apart."""
 
-from seenby.sheet import answers
+from seenby.sheet import Sheet, answer, answers, made_by
 
 PUT, ADD, COPY, SUM, EXCHANGE, IF_NOUGHT = range(6)
 KINDS = (PUT, ADD, COPY, SUM, EXCHANGE, IF_NOUGHT)
@@ -50,6 +50,22 @@ def all_of(n, who=0):
     return [3, who, n]
 
 
+def give(n, who=0):
+    return [4, who, n]
+
+
+def read(c, who=0):
+    return [5, who, c]
+
+
+def seen(c):
+    return [6, c]
+
+
+def from_(c):
+    return [7, c]
+
+
 def flat(calls):
     return [number for call in calls for number in call]
 
@@ -65,17 +81,44 @@ def apart(numbers):
     return lists
 
 
-def ask(*calls):
-    """What's answered to the calls, behind a begin: each first number."""
+def told(*calls):
+    """What's answered to the calls, behind a begin: a list each."""
     given = apart(answers(flat((BEGIN,) + calls)))
     if len(given) != len(calls) + 1 or given[0] != [0]:
         raise AssertionError(f"not one answer a call: {given}")
+    return given[1:]
+
+
+def last_told(*calls):
+    """The answer to the last of the calls, as a list."""
+    return told(*calls)[-1]
+
+
+def ask(*calls):
+    """What's answered to the calls, behind a begin, where each answer is one number."""
+    given = told(*calls)
     for numbers in given:
         if len(numbers) != 1:
             raise AssertionError(f"not one number in the answer: {numbers}")
-    return [numbers[0] for numbers in given[1:]]
+    return [numbers[0] for numbers in given]
 
 
 def last(*calls):
-    """The answer to the last of the calls."""
+    """The answer to the last of the calls, where each answer is one number."""
     return ask(*calls)[-1]
+
+
+def view(*calls):
+    """How the calls leave the sheet: from and seen of each cell, all values, which steps are there."""
+    asked = [from_(c) for c in range(32)] + [seen(c) for c in range(32)]
+    shown = told(*calls, *asked)[len(calls):]
+    sheet = sheet_behind(*calls)
+    return shown, made_by(sheet.steps), [step.there for step in sheet.steps]
+
+
+def sheet_behind(*calls):
+    """The sheet as the calls leave it."""
+    sheet = Sheet()
+    for call in (BEGIN,) + calls:
+        answer(sheet, call[0], call[1:])
+    return sheet

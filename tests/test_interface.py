@@ -6,13 +6,16 @@ import unittest
 
 from seenby.sheet import answers
 from tests.helper import (
-    BEGIN, GREATEST, add, all_of, apart, ask, copy, do, flat, put, take, total,
+    BEGIN, EVERYBODY, GREATEST, add, all_of, apart, ask, copy, do, exchange, flat, from_, give, if_nought, put, read,
+    seen, take, told, total,
 )
 
 # Every call, with answers and refusals of each.
 SOME_CALLS = flat((
     BEGIN, put(0), copy(0, 1, who=1), put(32), add(1, mask=0), take(0), take(9), take(0, who=2),
-    all_of(0), take(1, who=1), all_of(0), all_of(0), total(1, 1, 1), BEGIN, put(31),
+    all_of(0), take(1, who=1), all_of(0), all_of(0), total(1, 1, 1), give(1, who=1), give(0), give(0), give(2),
+    give(8), give(0, who=3), read(0), read(1), read(0, who=16), seen(0), seen(1), seen(32), from_(0), from_(1),
+    from_(5), from_(32), exchange(0, 1), if_nought(1, 2), BEGIN, put(31), read(31),
 ))
 
 
@@ -22,12 +25,31 @@ class Form(unittest.TestCase):
         calls = [0, 1, 3, 0, 4, 0, 0, 9, 65535, 1, 3, 2, 4, 5, 0, 0, 1, 2, 3, 0, 3, 3, 0, 2, 3, 1]
         self.assertEqual(answers(calls), [1, 0, 1, 0, 1, 1, 1, -16, 1, 2, 1, -17])
 
+    def test_read_and_seen_give_back_0_and_one_number(self):
+        calls = [0, 1, 3, 0, 4, 0, 0, 9, 5, 5, 2, 4, 6, 4, 5, 1, 4]
+        self.assertEqual(answers(calls), [1, 0, 1, 0, 2, 0, 9, 2, 0, 5, 1, -13])
+
+    def test_from_gives_back_how_many_and_their_numbers(self):
+        calls = [0, 1, 3, 0, 4, 0, 0, 9, 5, 1, 3, 2, 4, 6, 0, 0, 5, 7, 6, 7, 4, 7, 0]
+        self.assertEqual(answers(calls), [1, 0, 1, 0, 1, 1, 3, 2, 0, 1, 2, 1, 0, 1, 0])
+
+    def test_give_gives_back_0_alone(self):
+        self.assertEqual(answers([0, 1, 3, 0, 4, 0, 0, 9, 5, 2, 3, 0, 4, 3, 0, 4, 3, 0]), [1, 0, 1, 0, 1, 0, 1, 0, 1, -17])
+
     def test_a_refusal_is_its_number_alone(self):
         self.assertEqual(answers([0, 2, 0, 0, 3, 0, 0]), [1, 0, 1, -2, 1, -2])
+        self.assertEqual(answers([0, 4, 0, 0, 5, 16, 0, 5, 0, 32]), [1, 0, 1, -2, 1, -22, 1, -22])
+        self.assertEqual(answers([0, 6, 32, 7, 32]), [1, 0, 1, -22, 1, -22])
         self.assertEqual(answers([0, 1, 16, 0, 0, 0, 0, 0, 0]), [1, 0, 1, -22])
 
     def test_one_answer_for_each_call(self):
-        self.assertEqual([len(numbers) for numbers in apart(answers(SOME_CALLS))], [1] * 15)
+        # Step 0 is there again at the end, and the add that nobody sees has cell 1.
+        self.assertEqual(apart(answers(SOME_CALLS)), [
+            [0], [0], [1], [-22], [2], [-16], [-2], [-1],
+            [-13], [0], [1], [-17], [3], [-11], [0], [-17], [-17],
+            [-2], [-1], [0, 7], [-13], [-22], [0, EVERYBODY], [0, 0], [-22], [1, 0], [2, 2, 3],
+            [0], [-22], [4], [5], [0], [0], [0, 7],
+        ])
 
     def test_a_list_of_whole_numbers_that_are_not_truths(self):
         given = answers(SOME_CALLS)
@@ -56,7 +78,7 @@ class KeepsNothing(unittest.TestCase):
     def test_what_is_given_back_is_new_each_time(self):
         first = answers(SOME_CALLS)
         first.clear()
-        self.assertEqual(len(answers(SOME_CALLS)), 30)
+        self.assertEqual(len(apart(answers(SOME_CALLS))), 34)
 
     def test_nothing_is_printed(self):
         printed = io.StringIO()
@@ -85,12 +107,35 @@ class GreatestNumbers(unittest.TestCase):
                 call[k + 1] = GREATEST
                 self.assertEqual(ask(call), [0 if k == 5 else -22])
 
-    def test_each_number_of_take_and_all(self):
-        for call in (take, all_of):
+    def test_each_number_of_take_all_and_give(self):
+        for call in (take, all_of, give):
             with self.subTest(call=call):
                 self.assertEqual(ask(put(0), call(0, who=GREATEST)), [0, -1])
                 self.assertEqual(ask(put(0), call(GREATEST)), [0, -2])
                 self.assertEqual(ask(put(0), call(GREATEST, who=GREATEST)), [0, -2])
+
+    def test_each_number_of_read_seen_and_from(self):
+        self.assertEqual(ask(read(0, who=GREATEST), read(GREATEST), read(GREATEST, who=GREATEST)), [-22] * 3)
+        self.assertEqual(ask(seen(GREATEST), from_(GREATEST)), [-22] * 2)
+
+    def test_the_greatest_v_is_read(self):
+        self.assertEqual(told(put(31, v=GREATEST, who=15), read(31, who=15)), [[0], [0, GREATEST]])
+
+    def test_400_calls_with_all_eight_among_them(self):
+        steps = [add(0, v=GREATEST)] * 100 + [total(0, 1, 1)] * 100 + [put(k % 32, mask=1) for k in range(56)]
+        asked = [give(0), take(199), give(199), all_of(255), give(255), read(1), read(1, who=1), seen(1), from_(1)]
+        given = told(*steps, *asked * 15, BEGIN, *asked[:7])
+        self.assertEqual(len(given), 399)
+        self.assertEqual(given[:256], [[n] for n in range(256)])
+        # Puts 201 and 233 are of cell 1, so it's theirs, the later one's, at the end.
+        once = [[-17], [0], [0], [1], [0], [0, 7], [-13], [0, 1], [1, 233]]
+        self.assertEqual(given[256:391], once * 15)
+        self.assertEqual(given[391:], [[0], [-2], [-2], [-2], [-2], [-2], [0, 0], [0, 0]])
+
+    def test_the_longest_answers(self):
+        steps = [put(0)] + [total(0, 0, 0)] * 255
+        given = told(*steps, *[from_(0)] * 143)
+        self.assertEqual(given[256:], [[256, *range(256)]] * 143)
 
     def test_400_calls(self):
         steps = [add(0)] * 128 + [copy(0, 1)] * 128

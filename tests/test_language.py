@@ -95,6 +95,18 @@ class Language(unittest.TestCase):
                 if isinstance(node, (ast.For, ast.While)):
                     self.assertEqual(node.orelse, [])
 
+    def test_names_of_the_top_have_plain_values_once(self):
+        for path in files():
+            names = []
+            for node in ast.parse(text(path)).body:
+                if isinstance(node, ast.Assign):
+                    self.assertEqual(len(node.targets), 1)
+                    names.append(node.targets[0].id)
+                    ast.literal_eval(node.value)
+                elif not isinstance(node, (ast.FunctionDef, ast.ClassDef, ast.ImportFrom)):
+                    self.assertIsInstance(node.value, ast.Constant)
+            self.assertEqual(len(names), len(set(names)))
+
     def test_only_the_package_s_own_is_imported(self):
         for path in files():
             for node in nodes(path):
